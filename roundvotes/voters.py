@@ -4,13 +4,17 @@ Each def of a call takes the object, the call's whole numbers and its row, and
 gives back the list of numbers that the call answers.
 """
 
-from roundvotes.parts import fraction, level_fractions
-from roundvotes.words import is_rising, no_to_all, opposite, with_bit_turned, with_word_put, words_of
+from roundvotes.parts import fraction, level_fractions, no_round_by_parts
+from roundvotes.votes import THINGS, all_outcomes, first_round, is_round, is_vote, order_of, outcome
+from roundvotes.votes import rounds_among, winner_of, wins_among
+from roundvotes.words import is_alike, is_rising, no_to_all, opposite, turns_with_all_bits
+from roundvotes.words import with_bit_turned, with_word_put, words_of
 from roundvotes.words import yes_from, yes_to_odd, yes_to_those, yes_where_set, yes_words
 
 NO_SUCH_BIT = -2
 NOT_BEGUN = -11
 NOT_RIGHT = -22
+THERE_IS_NONE = -33
 
 MOST_BITS = 4
 MOST_TOLD = 32
@@ -107,9 +111,77 @@ def state(voters, given, row):
     return [voters.bits] + yes_words(voters.says)
 
 
+def vote(voters, given, row):
+    if not is_vote(row, voters.bits):
+        return [NOT_RIGHT]
+    came = outcome(voters.says, row)
+    return [1 if is_round(came) else 0] + list(came)
+
+
+def winner(voters, given, row):
+    if not is_vote(row, voters.bits):
+        return [NOT_RIGHT]
+    came = outcome(voters.says, row)
+    return [THERE_IS_NONE] if is_round(came) else [winner_of(came)]
+
+
+def order(voters, given, row):
+    if not is_vote(row, voters.bits):
+        return [NOT_RIGHT]
+    came = outcome(voters.says, row)
+    return [THERE_IS_NONE] if is_round(came) else [order_of(came)]
+
+
+def rounds(voters, given, row):
+    return [rounds_among(all_outcomes(voters.says, voters.bits))]
+
+
+def noround(voters, given, row):
+    outcomes = all_outcomes(voters.says, voters.bits)
+    return [0] + fraction(len(outcomes) - rounds_among(outcomes), len(outcomes))
+
+
+def byparts(voters, given, row):
+    return [0] + no_round_by_parts(voters.says, voters.bits)
+
+
+def isodd(voters, given, row):
+    return [1 if turns_with_all_bits(voters.says) else 0]
+
+
+def alike(voters, given, row):
+    return [1 if is_alike(voters.says) else 0]
+
+
+def whose(voters, given, row):
+    for number in range(voters.bits):
+        own = yes_where_set(voters.bits, number)
+        if voters.says == own:
+            return [number, 1]
+        if voters.says == opposite(own):
+            return [number, 0]
+    return [THERE_IS_NONE]
+
+
+def first(voters, given, row):
+    found = first_round(all_outcomes(voters.says, voters.bits), voters.bits)
+    return [THERE_IS_NONE] if len(found) == 0 else [voters.bits] + found
+
+
+def agreed(voters, given, row):
+    return [voters.says[len(voters.says) - 1], voters.says[0]]
+
+
+def wins(voters, given, row):
+    if given[0] >= THINGS:
+        return [NOT_RIGHT]
+    return [wins_among(all_outcomes(voters.says, voters.bits), given[0])]
+
+
 # By the calls' numbers: the def, how many whole numbers stand behind the number,
 # and which calls have a row behind those.
-DEFS = (begin, told, least, odd, own_bit, other_one, turn, put, ask, mean, levels, rising, state)
+DEFS = (begin, told, least, odd, own_bit, other_one, turn, put, ask, mean, levels, rising, state,
+        vote, winner, order, rounds, noround, byparts, isodd, alike, whose, first, agreed, wins)
 WHOLE_NUMBERS = (1, 0, 1, 1, 1, 0, 1, 2, 1, 0, 0, 0, 0, 0, 0, 0, 0, 0, 0, 0, 0, 0, 0, 0, 1)
 WITH_ROW = (1, 2, 13, 14, 15)
 
@@ -117,8 +189,6 @@ WITH_ROW = (1, 2, 13, 14, 15)
 def answer(voters, call, given, row):
     if voters.bits == 0 and call != BEGIN:
         return [NOT_BEGUN]
-    if call >= len(DEFS):
-        raise NotImplementedError(f"call {call} is not built yet")
     answering = DEFS[call]
     return answering(voters, given, row)
 

@@ -82,3 +82,14 @@ def falls_at(says, bits, word):
 
 def is_rising(says, bits):
     return not any([falls_at(says, bits, word) for word in range(len(says))])
+
+
+def turns_with_all_bits(says):
+    """Whether with all bits turned the answer to each word is the other one."""
+    # With all bits turned the words count down where they counted up.
+    return list(reversed(says)) == opposite(says)
+
+
+def is_alike(says):
+    """Whether words with as many bits set have one answer: that of the lowest of them."""
+    return all([yes == says[words_of(bits_set(word)) - 1] for word, yes in enumerate(says)])

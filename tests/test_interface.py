@@ -3,8 +3,25 @@
 import unittest
 
 import roundvotes.voters
-from helper import LARGEST, line
+from helper import LARGEST, cut, line
 from roundvotes.voters import answers
+
+TOLD_OF_THE_MOST_OF_THREE = [
+    (("vote", [0, 3, 4]), [1, 1, 1, 1]), (("winner", [0, 3, 2]), [1]), (("order", [0, 3, 2]), [2]),
+    (("rounds",), [12]), (("noround",), [0, 17, 18]), (("byparts",), [0, 17, 18]), (("isodd",), [1]),
+    (("alike",), [1]), (("whose",), [-33]), (("first",), [3, 0, 3, 4]), (("agreed",), [1, 0]), (("wins", 2), [68]),
+]
+
+
+def refuse(*given):
+    raise AssertionError("what is handed in was changed")
+
+
+class Untouched(list):
+    """A list that tells of every change, one that is undone too."""
+
+    append = clear = extend = insert = pop = remove = reverse = sort = refuse
+    __setitem__ = __delitem__ = __iadd__ = __imul__ = refuse
 
 
 class GivenBack(unittest.TestCase):
@@ -20,6 +37,17 @@ class GivenBack(unittest.TestCase):
         self.assertEqual(answers([0, 2, 3, 3, 4, 1, 5, 6, 0, 7, 3, 1]),
                          [1, 0, 1, 2, 1, 2, 1, 2, 1, 2, 1, 3])
 
+    def test_the_calls_of_votes_with_how_many_numbers_ahead(self):
+        handed = [0, 3, 2, 2, 3, 1, 1, 1, 13, 3, 0, 3, 4, 14, 3, 0, 3, 4, 15, 3, 0, 3, 2, 16, 17, 18, 19, 20, 21, 22,
+                  23, 24, 1, 24, 3, 13, 0, 14, 3, 5, 1, 4]
+        wanted = [1, 0, 1, 4, 4, 1, 1, 1, 1, 1, -33, 1, 2, 1, 12, 3, 0, 17, 18, 3, 0, 17, 18, 1, 1, 1, 1, 1, -33,
+                  4, 3, 0, 3, 4, 2, 1, 0, 1, 68, 1, -22, 1, -22, 1, 2]
+        self.assertEqual(answers(handed), wanted)
+
+    def test_an_answer_made_between_two_asked(self):
+        self.assertEqual(answers([0, 2, 16, 4, 1, 16, 21, 5, 21, 6, 1, 21, 7, 0, 1, 21, 23]),
+                         [1, 0, 1, 36, 1, 2, 1, 0, 2, 1, 1, 1, 2, 2, 1, 0, 1, 2, 2, 1, 1, 1, 3, 1, -33, 2, 1, 1])
+
     def test_one_call_alone(self):
         self.assertEqual(answers([0, 1]), [1, 0])
         self.assertEqual(answers([12]), [1, -11])
@@ -32,12 +60,27 @@ class GivenBack(unittest.TestCase):
         handed = [0, 4] + [5] * 29
         self.assertEqual(answers(handed), [1, 0] + [1, 16, 1, 0] * 14 + [1, 16])
 
+    def test_the_same_call_again_and_again(self):
+        for call, reply in TOLD_OF_THE_MOST_OF_THREE:
+            handed = line(("begin", 3), ("least", 2, [1, 1, 1]), *[call] * 28)
+            self.assertEqual(cut(answers(handed)), [[0], [4]] + [reply] * 28, call)
+
+    def test_every_call_of_votes_in_one_list_and_back_again(self):
+        calls = [call for call, reply in TOLD_OF_THE_MOST_OF_THREE]
+        replies = [reply for call, reply in TOLD_OF_THE_MOST_OF_THREE]
+        handed = line(("begin", 3), ("least", 2, [1, 1, 1]), *calls, *calls[::-1], ("state",))
+        self.assertEqual(cut(answers(handed)), [[0], [4]] + replies + replies[::-1] + [[3, 3, 5, 6, 7]])
+
     def test_whole_numbers_alone(self):
-        given_back = answers(line(("begin", 3), ("told", [1]), ("least", 2, [1, 1, 1]), ("odd", 5), ("bit", 0),
-                                  ("not",), ("turn", 1), ("set", 2, 1), ("ask", 2), ("mean",), ("levels",),
-                                  ("rising",), ("state",), ("begin", 9), ("bit", 3)))
-        self.assertIs(type(given_back), list)
-        self.assertEqual({type(number) for number in given_back}, {int})
+        making = line(("begin", 3), ("told", [1]), ("least", 2, [1, 1, 1]), ("odd", 5), ("bit", 0), ("not",),
+                      ("turn", 1), ("set", 2, 1), ("ask", 2), ("mean",), ("levels",), ("rising",), ("state",),
+                      ("begin", 9), ("bit", 3))
+        of_the_most = [call for call, reply in TOLD_OF_THE_MOST_OF_THREE]
+        votes = line(("begin", 3), ("least", 2, [1, 1, 1]), *of_the_most, ("bit", 1), *of_the_most)
+        for handed in [making, votes]:
+            given_back = answers(handed)
+            self.assertIs(type(given_back), list)
+            self.assertEqual({type(number) for number in given_back}, {int})
 
 
 class HandedIn(unittest.TestCase):
@@ -45,10 +88,21 @@ class HandedIn(unittest.TestCase):
         for handed in [
             line(("begin", 2), ("told", [3, 1, 3]), ("least", 1, [1, 9]), ("set", 0, 1), ("turn", 1), ("state",)),
             line(("told", [5]), ("begin", 5), ("begin", 1), ("least", 0, [4]), ("not",)),
+            line(("begin", 2), ("bit", 1), ("vote", [3, 1]), ("winner", [5, 0]), ("order", [2, 4]), ("vote", [6, 0]),
+                 ("winner", []), ("rounds",), ("first",), ("not",), ("whose",), ("wins", 1), ("wins", 3)),
         ]:
             before = list(handed)
             answers(handed)
             self.assertEqual(handed, before)
+
+    def test_it_is_not_changed_for_a_while_either(self):
+        for n in [1, 2, 3, 4]:
+            every_call = line(("begin", n), ("told", [1, 0]), ("least", 1, [1] * n), ("odd", 1), ("bit", 0), ("not",),
+                              ("turn", 0), ("set", 0, 1), ("ask", 1), ("mean",), ("levels",), ("rising",), ("state",),
+                              ("vote", [3] * n), ("winner", [2] * n), ("order", [4] * n), ("rounds",), ("noround",),
+                              ("byparts",), ("isodd",), ("alike",), ("whose",), ("first",), ("agreed",), ("wins", 2),
+                              ("vote", [6] * n), ("told", [99]))
+            self.assertEqual(answers(Untouched(every_call)), answers(every_call))
 
     def test_what_is_given_back_is_another_list_each_time(self):
         handed = line(("begin", 2), ("not",), ("state",))
@@ -61,6 +115,15 @@ class HandedIn(unittest.TestCase):
         self.assertEqual(answers([0, 2, 5]), [1, 0, 1, 4])
         self.assertEqual(answers([12]), [1, -11])
         self.assertEqual(answers([0, 2, 12]), [1, 0, 1, 2])
+
+    def test_each_time_is_as_the_first_time(self):
+        lines = [line(("begin", n), ("bit", 0), ("rounds",), ("noround",), ("byparts",), ("whose",), ("first",),
+                      ("set", 0, 1), ("rounds",), ("first",), ("wins", 0), ("agreed",)) for n in [4, 1, 3, 2]]
+        once = [answers(handed) for handed in lines]
+        again = [answers(handed) for handed in reversed(lines)]
+        self.assertEqual(once, again[::-1])
+        self.assertEqual(answers([22]), [1, -11])
+        self.assertEqual(answers([0, 1, 22]), [1, 0, 2, 1, 0])
 
     def test_the_largest_numbers(self):
         top = LARGEST
@@ -78,6 +141,14 @@ class HandedIn(unittest.TestCase):
     def test_the_longest_line(self):
         handed = line(("begin", 4), *[("least", 0, [1] * 255)] * 29)
         self.assertEqual(answers(handed), [1, 0] + [1, -22] * 29)
+        handed = line(("begin", 4), *[("order", [5] * 255)] * 29)
+        self.assertEqual(answers(handed), [1, 0] + [1, -22] * 29)
+
+    def test_the_largest_numbers_of_votes(self):
+        top = LARGEST
+        handed = line(("wins", top), ("begin", 2), ("vote", [top, top]), ("winner", [0, top]), ("order", [top, 0]),
+                      ("wins", top), ("vote", [top] * 255), ("winner", [top] * 255), ("state",))
+        self.assertEqual(answers(handed), [1, -11, 1, 0] + [1, -22] * 6 + [1, 2])
 
     def test_a_rows_numbers_are_not_taken_for_calls(self):
         handed = line(("begin", 4), ("told", [0, 4, 5, 12]), ("least", 12, [5, 9, 0, 4]), ("state",))

@@ -13,7 +13,7 @@ ALLOWED_NAMES = {
     "list", "tuple", "dict", "set", "frozenset", "isinstance", "ord", "repr", "any", "all", "divmod",
     "KeyError", "ValueError", "NotImplementedError",
 }
-ALLOWED_METHODS = {"append", "extend", "get", "items", "keys", "values", "copy", "pop", "index", "count"}
+ALLOWED_METHODS = {"append", "extend", "get", "items", "keys", "values", "copy", "pop", "index", "insert", "count"}
 BARRED_WORDS = re.compile(r"\b(type|typing|enum|Enum|Flag|Generic|Protocol|ABC)\b|dataclass|overload|contextmanager")
 BARRED_NODES = (
     ast.With, ast.Match, ast.Delete, ast.Global, ast.Nonlocal, ast.Assert, ast.Yield, ast.YieldFrom, ast.Await,

@@ -2,7 +2,7 @@
 
 import unittest
 
-from helper import LARGEST, run
+from helper import LARGEST, one_bits_answers, run, words
 
 EVERY_OTHER_CALL = [
     ("told", [0]), ("least", 1, [1]), ("odd", 1), ("bit", 0), ("not",), ("turn", 0),
@@ -39,6 +39,14 @@ def not_right(n):
     for b in [2, 3, LARGEST]:
         yield ("set", 0, b)
         yield ("set", top - 1, b)
+    for call in ["vote", "winner", "order"]:
+        for many in [0, n - 1, n + 1, 255]:
+            yield (call, [0] * many)
+        for bad in [6, LARGEST]:
+            for place in range(n):
+                yield (call, [0] * place + [bad] + [5] * (n - 1 - place))
+    for k in [3, 4, LARGEST]:
+        yield ("wins", k)
 
 
 def no_such_bit(n):
@@ -48,8 +56,8 @@ def no_such_bit(n):
 
 
 class Refusals(unittest.TestCase):
-    def refused(self, n, call, number):
-        yes = [2 ** n - 1]
+    def refused(self, n, call, number, yes=None):
+        yes = [2 ** n - 1] if yes is None else yes
         replies = run(("begin", n), ("told", yes), ("state",), call, ("state",), ("ask", 2 ** n), ("levels",))
         untouched = run(("begin", n), ("told", yes), ("levels",))[-1]
         self.assertEqual(replies[2], [n] + yes)
@@ -68,11 +76,36 @@ class Refusals(unittest.TestCase):
             for call in no_such_bit(n):
                 self.refused(n, call, -2)
 
+    def test_there_is_none(self):
+        for n in [1, 2, 3, 4]:
+            for row in [[0] * n, [5] * n]:
+                for yes in [[], words(n)]:
+                    self.refused(n, ("winner", row), -33, yes)
+                    self.refused(n, ("order", row), -33, yes)
+            self.refused(n, ("whose",), -33, [])
+            self.refused(n, ("whose",), -33, words(n))
+            for i, own, yes in one_bits_answers(n):
+                self.refused(n, ("first",), -33, yes)
+        self.refused(2, ("whose",), -33, [1])
+        self.refused(3, ("winner", [0, 3, 4]), -33, [3, 5, 6, 7])
+        self.refused(3, ("order", [1, 5, 2]), -33, [3, 5, 6, 7])
+        self.refused(3, ("whose",), -33, [3, 5, 6, 7])
+
+    def test_not_right_goes_ahead_of_none(self):
+        for n in [1, 2, 3, 4]:
+            for call in ["winner", "order"]:
+                for row in [[], [0] * (n + 1), [6] * n, [0] * (n - 1) + [LARGEST]]:
+                    self.refused(n, (call, row), -22, [])
+                    self.refused(n, (call, row), -22, words(n))
+
     def test_the_last_that_is_granted(self):
         for n in [1, 2, 3, 4]:
             for call in [("told", [2 ** n - 1] * 32), ("least", 0, [9] * n), ("odd", 2 ** n - 1), ("bit", n - 1),
-                         ("turn", n - 1), ("set", 2 ** n - 1, 1), ("ask", 2 ** n - 1)]:
+                         ("turn", n - 1), ("set", 2 ** n - 1, 1), ("ask", 2 ** n - 1), ("vote", [5] * n),
+                         ("wins", 2)]:
                 self.assertGreaterEqual(run(("begin", n), call)[-1][0], 0, (n, call))
+            for call in [("winner", [5] * n), ("order", [5] * n)]:
+                self.assertGreaterEqual(run(("begin", n), ("bit", 0), call)[-1][0], 0, (n, call))
 
 
 class BeforeABegin(unittest.TestCase):
@@ -87,7 +120,8 @@ class BeforeABegin(unittest.TestCase):
     def test_it_goes_ahead_of_other_refusals(self):
         for call in [("told", [LARGEST]), ("told", [0] * 255), ("least", 0, []), ("least", LARGEST, [10] * 255),
                      ("odd", LARGEST), ("bit", LARGEST), ("turn", LARGEST), ("set", LARGEST, LARGEST),
-                     ("ask", LARGEST), ("vote", [9] * 255), ("winner", []), ("order", [6]), ("wins", 3)]:
+                     ("ask", LARGEST), ("vote", [9] * 255), ("winner", []), ("order", [6]), ("wins", 3),
+                     ("vote", []), ("winner", [LARGEST]), ("order", [0] * 5), ("wins", LARGEST)]:
             self.assertEqual(run(call), [[-11]], call)
 
     def test_a_begin_that_was_refused_is_none(self):
